@@ -156,9 +156,12 @@ class Guard(Term):
         self.inner = inner
         self.outer = outer
 
+    def lets_in(self, at):
+        return self.low <= at[self.axis] < self.high
+
     # The other one may ask for a cell that the world does not have, so it is never asked.
     def looked_at(self, at):
-        if self.low <= at[self.axis] < self.high:
+        if self.lets_in(at):
             return self.inner
         return self.outer
 

@@ -1,0 +1,38 @@
+"""Programs for the tests: what a test does not tell is as told here."""
+
+from arrayloom.errors import LoomError
+from arrayloom.programs import Let
+from arrayloom.programs import Program
+
+AXES = [("x", 4), ("y", 3), ("k", 2), ("m", 5)]
+TABLES = [("a", ["x"]), ("g", ["x", "y"]), ("n", [])]
+
+
+def weave(lets=(), axes=AXES, tables=TABLES, outs=None, wheel=10):
+    if outs is None:
+        outs = [let.name for let in lets] + [name for name, own in tables]
+    return Program(wheel, list(axes), list(tables), list(lets), list(outs))
+
+
+def one_let(term, axes=("x",), name="b"):
+    """A program whose one let has this term, behind the tables of TABLES."""
+    return weave([Let(name, list(axes), term)])
+
+
+def refusal_of(asked, program):
+    """The refusal of the program, which is asked twice, as a tuple of its name and its fields; or None."""
+    first, second = refusal_once(asked, program), refusal_once(asked, program)
+    if first != second:
+        raise AssertionError(f"{first} the first time, {second} the second time")
+    return first
+
+
+def refusal_once(asked, program):
+    try:
+        answer = asked(program)
+    except LoomError as refusal:
+        fields = [field for field in ("name", "array", "spot", "cell") if hasattr(refusal, field)]
+        return (type(refusal).__name__,) + tuple(getattr(refusal, field) for field in fields)
+    if answer is not None:
+        raise AssertionError(f"{answer} in the place of None")
+    return None
