@@ -46,3 +46,11 @@ def sums_at_top(term):
         axes.append(rest.axis)
         rest = rest.body
     return axes
+
+
+# What is left of a part within the sums that stand straight over one another from it on.
+def within_sums(part):
+    rest = part
+    while isinstance(rest.term, Sum):
+        rest = parts_right_within(rest)[0]
+    return rest

@@ -1,5 +1,6 @@
 """Programs: axes with lengths, tables that are handed in, lets that tell arrays, and outs."""
 
+from arrayloom.cells import cells_of
 from arrayloom.copies import copied
 
 
@@ -19,6 +20,18 @@ class Program:
         self.outs = copied(outs)
 
 
+def axis_names(program):
+    return [name for name, length in program.axes]
+
+
+def table_names(program):
+    return [name for name, axes in program.tables]
+
+
+def array_names(program):
+    return table_names(program) + [let.name for let in program.lets]
+
+
 def lengths_of(program):
     return dict(program.axes)
 
@@ -34,3 +47,7 @@ def arrays_of(program):
 
 def lengths_along(axes, lengths):
     return [lengths[axis] for axis in axes]
+
+
+def cells_along(axes, lengths):
+    return cells_of(lengths_along(axes, lengths))

@@ -1,11 +1,11 @@
 """The whole looker: names, shapes, the work, and then each read at each of its spots."""
 
-from arrayloom.cells import cells_of
 from arrayloom.errors import BeyondRim
 from arrayloom.errors import NotYet
 from arrayloom.errors import TooMuch
 from arrayloom.parts import parts_of
 from arrayloom.programs import arrays_of
+from arrayloom.programs import cells_along
 from arrayloom.programs import lengths_along
 from arrayloom.programs import lengths_of
 from arrayloom.shapes import look_names
@@ -49,7 +49,7 @@ def look_spots(let, part, lengths, axes):
 def leads_of(let, part, lengths):
     axes = let.axes + part.sums
     leads = []
-    for spot in cells_of(lengths_along(axes, lengths)):
+    for spot in cells_along(axes, lengths):
         at = dict(zip(axes, spot))
         if is_reached(part.guards, at):
             leads.append((spot, part.term.cell_at(at)))

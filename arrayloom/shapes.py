@@ -4,7 +4,9 @@ from arrayloom.errors import NoName
 from arrayloom.errors import NoShape
 from arrayloom.parts import parts_of
 from arrayloom.parts import sums_at_top
+from arrayloom.programs import array_names
 from arrayloom.programs import arrays_of
+from arrayloom.programs import axis_names
 from arrayloom.programs import lengths_along
 from arrayloom.programs import lengths_of
 from arrayloom.terms import Guard
@@ -23,14 +25,6 @@ def look_names(program):
     look_outs(program.outs, array_names(program))
     for axes in arrays_of(program).values():
         look_axes(axes, axis_names(program))
-
-
-def axis_names(program):
-    return [name for name, length in program.axes]
-
-
-def array_names(program):
-    return [name for name, axes in program.tables] + [let.name for let in program.lets]
 
 
 def look_told_names(names):

@@ -78,7 +78,8 @@ def index_word(axis, shift):
     return f"{axis}{shift}"
 
 
-# What Plus, Minus and Times have in common: only how the two worths are joined, and the sign, are their own.
+# What Plus, Minus and Times have in common: only how the two worths are joined, the sign, and the making of another one
+# like it (a term is never changed) are their own.
 class Pair(Term):
     def __init__(self, left, right):
         self.left = left
@@ -103,6 +104,9 @@ class Plus(Pair):
     def sign(self):
         return "+"
 
+    def made_of(self, left, right):
+        return Plus(left, right)
+
 
 class Minus(Pair):
     def joined(self, left, right):
@@ -111,6 +115,9 @@ class Minus(Pair):
     def sign(self):
         return "-"
 
+    def made_of(self, left, right):
+        return Minus(left, right)
+
 
 class Times(Pair):
     def joined(self, left, right):
@@ -118,6 +125,9 @@ class Times(Pair):
 
     def sign(self):
         return "*"
+
+    def made_of(self, left, right):
+        return Times(left, right)
 
 
 class Sum(Term):
@@ -158,6 +168,9 @@ class Guard(Term):
 
     def lets_in(self, at):
         return self.low <= at[self.axis] < self.high
+
+    def made_of(self, inner, outer):
+        return Guard(self.axis, self.low, self.high, inner, outer)
 
     # The other one may ask for a cell that the world does not have, so it is never asked.
     def looked_at(self, at):

@@ -138,6 +138,18 @@ class OtherFields(unittest.TestCase):
             self.assertIs(made.inner, inner)
             self.assertIs(made.outer, outer)
 
+    def test_one_like_it_is_another_one(self):
+        left, right, new = Number(1), Place("x"), Number(2)
+        for kind in (Plus, Minus, Times):
+            pair = kind(left, right)
+            other = pair.made_of(right, new)
+            self.assertIs(type(other), kind)
+            self.assertEqual((other.left, other.right, pair.left, pair.right), (right, new, left, right))
+        guard = Guard("x", -3, 4, left, right)
+        other = guard.made_of(right, new)
+        self.assertEqual((other.axis, other.low, other.high), ("x", -3, 4))
+        self.assertEqual((other.inner, other.outer, guard.inner, guard.outer), (right, new, left, right))
+
     def test_fields_stay_when_a_term_is_asked(self):
         inner, outer = Read("a", [("x", 0)]), Number(2)
         guard = Guard("x", 0, 1, inner, outer)

@@ -1,7 +1,9 @@
 import unittest
 
+from arrayloom.parts import Part
 from arrayloom.parts import parts_of
 from arrayloom.parts import sums_at_top
+from arrayloom.parts import within_sums
 from arrayloom.terms import Guard
 from arrayloom.terms import Minus
 from arrayloom.terms import Number
@@ -82,6 +84,21 @@ class SumsAtTop(unittest.TestCase):
     def test_from_the_outermost_in_up_to_what_is_no_sum(self):
         self.assertEqual(sums_at_top(Sum("k", Number(1))), ["k"])
         self.assertEqual(sums_at_top(Sum("k", Sum("m", Plus(Number(1), Sum("x", Number(1)))))), ["k", "m"])
+
+
+class WithinSums(unittest.TestCase):
+    def test_what_is_no_sum_stays(self):
+        part = Part(Plus(Sum("k", Number(1)), Number(1)), ["x"], [])
+        self.assertIs(within_sums(part), part)
+
+    def test_the_innermost_body_with_all_sums_round_it(self):
+        body = Plus(Number(1), Sum("m", Number(1)))
+        guard = Guard("x", 0, 1, Number(1), Number(2))
+        part = Part(Sum("k", Sum("y", body)), ["x"], [(guard, False)])
+        within = within_sums(part)
+        self.assertIs(within.term, body)
+        self.assertEqual((within.sums, within.guards), (["x", "k", "y"], [(guard, False)]))
+        self.assertEqual(part.sums, ["x"])
 
 
 if __name__ == "__main__":
