@@ -1,8 +1,8 @@
 """Steps: the first order of a cloth's steps, and the steps that the loops and deeds of a nest do."""
 
+from arrayloom.nests import NO_OUTER
+from arrayloom.nests import is_loop
 from arrayloom.programs import cells_along
-
-NO_OUTER = -1
 
 
 def first_order(cloth):
@@ -32,7 +32,7 @@ def steps_of(nest):
 # for it, as deeds and outers name loops round them alone.
 def do_body(body, counts, steps):
     for node in body:
-        if node[0] == "loop":
+        if is_loop(node):
             do_loop(node, counts, steps)
         else:
             steps.append(step_of(node, counts))

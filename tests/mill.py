@@ -1,4 +1,5 @@
-"""Programs that the looker lets by, nests, and tables for them, all by a seed; and plain walks to hold answers against.
+"""Programs that the looker lets by, tables for them, cloths, nests and moves, all by a seed; and plain walks to hold
+answers against.
 
 The plain walks do not ask the terms themselves: they go over the fields alone.
 """
@@ -6,6 +7,8 @@ The plain walks do not ask the terms themselves: they go over the fields alone.
 import itertools
 import random
 
+from arrayloom.lines import Cloth
+from arrayloom.lines import Line
 from arrayloom.programs import Let
 from arrayloom.programs import Program
 from arrayloom.programs import arrays_of
@@ -30,6 +33,7 @@ class Mill:
         self.dice = random.Random(seed)
         self.lengths = {}
         self.arrays = {}
+        self.summing = True
         self.number = 0
 
     def program(self):
@@ -60,8 +64,49 @@ class Mill:
         self.arrays[name] = axes
         return Let(name, axes, term)
 
+    def cloth(self):
+        """A cloth by hand: a line has more own axes than an array of a program may have, and sums at the top alone."""
+        self.summing = False
+        self.lengths = {axis: self.dice.choice([1, 2, 2, 3]) for axis in self.dice.sample(AXES, len(AXES))}
+        self.arrays = {name: self.own_axes(3) for name in "abc"[:self.dice.randint(1, 3)]}
+        tables = sorted(self.arrays)
+        lines = [self.line(name) for name in "defg"[:self.dice.randint(0, 4)]]
+        outs = self.dice.sample(sorted(self.arrays), self.dice.randint(1, len(self.arrays)))
+        self.summing = True
+        return Cloth(self.dice.choice([2, 7, 10 ** 12]), self.lengths, self.arrays, tables, lines, outs)
+
+    def line(self, name):
+        axes = self.own_axes(4)
+        sums = [axis for axis in self.own_axes(3) if axis not in axes] if self.dice.random() < 0.5 else []
+        spans = {axis: (0, self.lengths[axis]) for axis in axes + sums}
+        term = self.term(self.dice.randint(0, 4), spans, Line(name, axes, sums, None))
+        self.arrays[name] = axes
+        return Line(name, axes, sums, term)
+
+    def grid(self):
+        """A cloth of lines over the same two axes, which read one another and themselves aslant."""
+        self.lengths = {"x": self.dice.randint(2, 4), "y": self.dice.randint(2, 4), "k": 2}
+        lines = []
+        for name in "defg"[:self.dice.randint(1, 4)]:
+            shifts = [(x, y) for x in (-1, 0, 1) for y in (-1, 0, 1)]
+            ahead = [self.aslant(line.name, self.dice.choice(shifts)) for line in lines if self.dice.random() < 0.6]
+            own = [self.aslant(name, self.dice.choice(shifts[:4])) for again in range(self.dice.randint(0, 2))]
+            term = Place("x")
+            for other in ahead + own:
+                term = Plus(term, other)
+            lines.append(Line(name, ["x", "y"], self.dice.choice([[], [], ["k"]]), term))
+        names = [line.name for line in lines]
+        return Cloth(10, self.lengths, {name: ["x", "y"] for name in names}, [], lines, names)
+
+    def aslant(self, array, shifts):
+        """A read of the cell so far off, with guards at the rims."""
+        term = Read(array, list(zip(("x", "y"), shifts)))
+        for axis, shift in term.indexes:
+            term = Guard(axis, max(0, -shift), min(self.lengths[axis], self.lengths[axis] - shift), term, Number(0))
+        return term
+
     def term(self, depth, spans, own):
-        """own is the let, for its name and axes, where it may read itself; else None."""
+        """own is the let or the line, for its name and axes, where it may read itself; else None."""
         free = [axis for axis in AXES if axis not in spans]
         roll = self.dice.random()
         if depth == 0 or roll < 0.1:
@@ -70,7 +115,7 @@ class Mill:
             left = self.term(depth - 1, spans, own)
             right = left if self.dice.random() < 0.15 else self.term(depth - 1, spans, own)
             return self.dice.choice(PAIRS)(left, right)
-        if roll < 0.7 and free:
+        if roll < 0.7 and free and self.summing:
             axis = self.dice.choice(free)
             inside = dict(spans)
             inside[axis] = (0, self.lengths[axis])
@@ -159,6 +204,29 @@ class Mill:
                 body = (("loop", self.taken(), 2, 0, -1, body),)
         return body[0]
 
+    def move(self, nest):
+        """A move that can be made or not: mostly of a loop, at times of another number."""
+        loops = [node for node in nodes_of(nest[1]) if node[0] == "loop"]
+        if not loops or self.dice.random() < 0.1:
+            number, size = self.dice.randint(-1, nest[0]), 1
+        else:
+            number, size = self.dice.choice(loops)[1:3]
+        word = self.dice.choice(["swap", "cut", "join"])
+        if word == "cut":
+            return (word, number, self.dice.choice([-1, 0, 1, 2, 2, 3, size, size + 1, 10 ** 29]))
+        return (word, number)
+
+    def row(self, nest, most):
+        """Moves that can all be made, one after the other, and the nest that comes of them."""
+        moves = []
+        for again in range(4 * most):
+            move = self.move(nest)
+            made = plain_moved(nest, move)
+            if made is not None and len(moves) < most:
+                moves.append(move)
+                nest = made
+        return moves, nest
+
     def taken(self):
         self.number = self.number + 1
         return self.number - 1
@@ -236,3 +304,138 @@ def woven(cloth, tables):
                 total = total + plain_worth(line.term, at, {}, lambda array, found: there[array][found])
             there[line.name][cell] = total % cloth.wheel
     return {name: [number % cloth.wheel for number in told.values()] for name, told in there.items()}
+
+
+def plain_steps(nest):
+    """By point 22, the other way about: each deed's steps by themselves, then put in order.
+
+    A step's key has, from the outside in, the place in the body and the count of the loop there.
+    """
+    keyed = []
+
+    def gather(body, rounds):
+        for place, node in enumerate(body):
+            if node[0] == "loop":
+                number, size, width, outer = node[1:5]
+                longer = []
+                for key, counts in rounds:
+                    for count in range(size):
+                        if outer == -1 or counts[outer] * width <= count < (counts[outer] + 1) * width:
+                            longer.append((key + (place, count), {**counts, number: count}))
+                gather(node[5], longer)
+            else:
+                for key, counts in rounds:
+                    cell, turn = [tuple(counts[number] for number in numbers) for numbers in node[4:]]
+                    keyed.append((key + (place,), (node[2], node[3], cell, turn)))
+
+    gather(nest[1], [((), {})])
+    return [step for key, step in sorted(keyed, key=lambda pair: pair[0])]
+
+
+def nodes_of(body):
+    """All nodes, in the order in which they are written out."""
+    nodes = []
+    for node in body:
+        nodes.append(node)
+        if node[0] == "loop":
+            nodes.extend(nodes_of(node[5]))
+    return nodes
+
+
+def plain_moved(nest, move):
+    """By point 24, over one dict of all nodes by their numbers; None where the move can not be made."""
+    fresh, nodes = nest[0], {}
+    top = spread(nest[1], nodes)
+    word, number = move[:2]
+    if "body" not in nodes.get(number, {}):
+        return None
+    loop = nodes[number]
+    beside = [body for body in [top] + [node.get("body", []) for node in nodes.values()] if number in body][0]
+    place = beside.index(number)
+    if word == "swap":
+        other = nodes[loop["body"][0]]
+        if len(loop["body"]) != 1 or other.get("outer", number) == number:
+            return None
+        beside[place] = loop["body"][0]
+        loop["body"], other["body"] = other["body"], [number]
+    if word == "cut":
+        if loop["outer"] != -1 or move[2] < 1:
+            return None
+        name_instead(nodes, number, fresh)
+        nodes[fresh] = {"size": loop["size"], "width": move[2], "outer": number, "body": loop["body"]}
+        loop["size"], loop["body"] = len(range(0, loop["size"], move[2])), [fresh]
+        fresh = fresh + 1
+    if word == "join":
+        other = nodes[(beside + beside)[place + 1]]
+        if place + 1 == len(beside) or any(loop[field] != other.get(field) for field in ("size", "width", "outer")):
+            return None
+        name_instead(nodes, beside.pop(place + 1), number)
+        loop["body"].extend(other["body"])
+    return (fresh, put_together(top, nodes))
+
+
+def spread(body, nodes):
+    for node in body:
+        if node[0] == "loop":
+            inside = spread(node[5], nodes)
+            nodes[node[1]] = {"size": node[2], "width": node[3], "outer": node[4], "body": inside}
+        else:
+            nodes[node[1]] = {"line": node[2], "word": node[3], "cell": node[4], "turn": node[5]}
+    return [node[1] for node in body]
+
+
+def name_instead(nodes, old, new):
+    for node in nodes.values():
+        if node.get("outer") == old:
+            node["outer"] = new
+        for field in ("cell", "turn"):
+            if field in node:
+                node[field] = tuple(new if number == old else number for number in node[field])
+
+
+def put_together(numbers, nodes):
+    body = []
+    for number in numbers:
+        node = nodes[number]
+        if "body" in node:
+            inside = put_together(node["body"], nodes)
+            body.append(("loop", number, node["size"], node["width"], node["outer"], inside))
+        else:
+            body.append(("deed", number, node["line"], node["word"], node["cell"], node["turn"]))
+    return tuple(body)
+
+
+def plain_order(cloth):
+    """By point 21."""
+    steps = []
+    for number, line in enumerate(cloth.lines):
+        for cell in cells(line.axes, cloth.lengths):
+            adds = [(number, "add", cell, turn) for turn in cells(line.sums, cloth.lengths)]
+            steps.extend([(number, "start", cell, ())] + adds if line.sums else [(number, "set", cell, ())])
+    return steps
+
+
+def plain_reads(cloth, step):
+    """By point 26: what the worth of the line's term asks for."""
+    line, asked = cloth.lines[step[0]], []
+
+    def number_at(array, cell):
+        asked.append((array, cell))
+        return 0
+
+    if step[1] != "start":
+        plain_worth(line.term, dict(zip(line.axes + line.sums, step[2] + step[3])), {}, number_at)
+    return asked
+
+
+def plain_needs(cloth):
+    """By point 27, each two steps held against each other."""
+    steps = plain_order(cloth)
+    reads = [set(plain_reads(cloth, step)) for step in steps]
+    needs = []
+    for i, j in itertools.combinations(range(len(steps)), 2):
+        needed, later = steps[i], steps[j]
+        begun = needed[:3] == (later[0], "start", later[2]) and later[1] == "add"
+        if begun or (cloth.lines[needed[0]].name, needed[2]) in reads[j]:
+            needs.append((i, j))
+    return needs

@@ -1,11 +1,13 @@
-"""Programs for the tests: what a test does not tell is as told here."""
+"""Programs, cloths and nodes for the tests: what a test does not tell is as told here."""
 
 from arrayloom.errors import LoomError
+from arrayloom.lines import Cloth
 from arrayloom.programs import Let
 from arrayloom.programs import Program
 
 AXES = [("x", 4), ("y", 3), ("k", 2), ("m", 5)]
 TABLES = [("a", ["x"]), ("g", ["x", "y"]), ("n", [])]
+LENGTHS = {"x": 2, "y": 3, "k": 2, "m": 1, "p": 1}
 
 
 def weave(lets=(), axes=AXES, tables=TABLES, outs=None, wheel=10):
@@ -36,3 +38,22 @@ def refusal_once(asked, program):
     if answer is not None:
         raise AssertionError(f"{answer} in the place of None")
     return None
+
+
+def cloth_with(*lines, lengths=None, tables=None):
+    """tables are the axes of each table, by their names."""
+    lengths, tables = lengths or dict(LENGTHS), tables or {}
+    arrays = {**tables, **{line.name: line.axes for line in lines}}
+    return Cloth(10, lengths, arrays, list(tables), list(lines), [line.name for line in lines])
+
+
+def loop(number, size, *body):
+    return ("loop", number, size, 0, -1, body)
+
+
+def cut_loop(number, size, width, outer, *body):
+    return ("loop", number, size, width, outer, body)
+
+
+def deed(number, line, word, cell=(), turn=()):
+    return ("deed", number, line, word, cell, turn)

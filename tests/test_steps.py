@@ -15,17 +15,16 @@ from arrayloom.terms import Plus
 from arrayloom.terms import Read
 from arrayloom.terms import Sum
 from tests.mill import Mill
-from tests.mill import cells
+from tests.mill import plain_order
+from tests.mill import plain_steps
+from tests.samples import LENGTHS
+from tests.samples import cloth_with
+from tests.samples import cut_loop
+from tests.samples import deed
+from tests.samples import loop
 from tests.samples import one_let
 
 ONE = Number(1)
-LENGTHS = {"x": 2, "y": 3, "k": 2, "m": 1, "p": 1}
-
-
-def cloth_with(*lines, lengths=None):
-    lengths = lengths or dict(LENGTHS)
-    arrays = {line.name: line.axes for line in lines}
-    return Cloth(10, lengths, arrays, [], list(lines), [line.name for line in lines])
 
 
 class FirstOrder(unittest.TestCase):
@@ -71,7 +70,8 @@ class FirstOrder(unittest.TestCase):
         self.check(cloth_with(Line("b", ["x", "k"], ["m", "p", "y"], ONE)), steps)
 
     def test_line_by_line(self):
-        lines = [Line("b", ["x"], [], ONE), Line("s0", [], ["k"], ONE), Line("c", [], [], ONE), Line("d", ["m"], [], ONE)]
+        lines = [Line("b", ["x"], [], ONE), Line("s0", [], ["k"], ONE), Line("c", [], [], ONE),
+                 Line("d", ["m"], [], ONE)]
         self.check(cloth_with(*lines), [
             (0, "set", (0,), ()), (0, "set", (1,), ()), (1, "start", (), ()), (1, "add", (), (0,)),
             (1, "add", (), (1,)), (2, "set", (), ()), (3, "set", (0,), ())])
@@ -143,51 +143,9 @@ class FirstOrder(unittest.TestCase):
         mill = Mill(29)
         for again in range(200):
             cloth = cloth_of(mill.program())
-            steps = []
-            for number, line in enumerate(cloth.lines):
-                for cell in cells(line.axes, cloth.lengths):
-                    turns = cells(line.sums, cloth.lengths)
-                    adds = [(number, "add", cell, turn) for turn in turns]
-                    steps.extend([(number, "start", cell, ())] + adds if line.sums else [(number, "set", cell, ())])
-            self.assertEqual(first_order(cloth), steps)
-
-
-def loop(number, size, *body):
-    return ("loop", number, size, 0, -1, body)
-
-
-def cut_loop(number, size, width, outer, *body):
-    return ("loop", number, size, width, outer, body)
-
-
-def deed(number, line, word, cell=(), turn=()):
-    return ("deed", number, line, word, cell, turn)
-
-
-def plain_steps(nest):
-    """By point 22, the other way about: each deed's steps by themselves, then put in order.
-
-    A step's key has, from the outside in, the place in the body and the count of the loop there.
-    """
-    keyed = []
-
-    def gather(body, rounds):
-        for place, node in enumerate(body):
-            if node[0] == "loop":
-                number, size, width, outer = node[1:5]
-                longer = []
-                for key, counts in rounds:
-                    for count in range(size):
-                        if outer == -1 or counts[outer] * width <= count < (counts[outer] + 1) * width:
-                            longer.append((key + (place, count), {**counts, number: count}))
-                gather(node[5], longer)
-            else:
-                for key, counts in rounds:
-                    cell, turn = [tuple(counts[number] for number in numbers) for numbers in node[4:]]
-                    keyed.append((key + (place,), (node[2], node[3], cell, turn)))
-
-    gather(nest[1], [((), {})])
-    return [step for key, step in sorted(keyed, key=lambda pair: pair[0])]
+            self.assertEqual(first_order(cloth), plain_order(cloth))
+            cloth = mill.cloth()
+            self.assertEqual(first_order(cloth), plain_order(cloth))
 
 
 class StepsOfNests(unittest.TestCase):
