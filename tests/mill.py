@@ -7,8 +7,10 @@ The plain walks do not ask the terms themselves: they go over the fields alone.
 import itertools
 import random
 
+from arrayloom.lifting import cloth_of
 from arrayloom.lines import Cloth
 from arrayloom.lines import Line
+from arrayloom.nests import first_nest
 from arrayloom.programs import Let
 from arrayloom.programs import Program
 from arrayloom.programs import arrays_of
@@ -97,6 +99,12 @@ class Mill:
             lines.append(Line(name, ["x", "y"], self.dice.choice([[], [], ["k"]]), term))
         names = [line.name for line in lines]
         return Cloth(10, self.lengths, {name: ["x", "y"] for name in names}, [], lines, names)
+
+    def with_outs(self, cloth, most):
+        """The same cloth with other outs, few of them, so that not all of its cells are wanted."""
+        names = sorted(cloth.arrays)
+        outs = self.dice.sample(names, self.dice.randint(1, min(most, len(names))))
+        return Cloth(cloth.wheel, cloth.lengths, cloth.arrays, cloth.tables, cloth.lines, outs)
 
     def aslant(self, array, shifts):
         """A read of the cell so far off, with guards at the rims."""
@@ -226,6 +234,12 @@ class Mill:
                 moves.append(move)
                 nest = made
         return moves, nest
+
+    def orders(self, cloth):
+        """Orders that are to be let by: the first one, one drawn by the needs, perhaps that of a nest behind moves."""
+        moves, nest = self.row(first_nest(cloth), self.dice.randint(1, 6))
+        orders = [plain_order(cloth), sorted_by_needs(cloth, self.dice), plain_steps(nest)]
+        return orders if plainly_good(cloth, orders[2]) else orders[:2]
 
     def taken(self):
         self.number = self.number + 1
@@ -439,3 +453,114 @@ def plain_needs(cloth):
         if begun or (cloth.lines[needed[0]].name, needed[2]) in reads[j]:
             needs.append((i, j))
     return needs
+
+
+def sorted_by_needs(cloth, dice):
+    """An order that is to be let by: each time one of the steps is drawn of which all that they need has come."""
+    order, needs = plain_order(cloth), plain_needs(cloth)
+    steps, come, left = [], set(), set(range(len(order)))
+    while left:
+        waiting = {later for needed, later in needs if needed not in come}
+        drawn = dice.choice(sorted(left - waiting))
+        left.remove(drawn)
+        come.add(drawn)
+        steps.append(order[drawn])
+    return steps
+
+
+def plainly_good(cloth, steps):
+    """By point 28."""
+    order, places = plain_order(cloth), {step: place for place, step in enumerate(steps)}
+    return all(places[order[i]] < places[order[j]] for i, j in plain_needs(cloth))
+
+
+def small_cloths(seed, turns, most):
+    """Pairs of a mill and one of its cloths, of at most so many steps, for which some more is to be made by it."""
+    mill = Mill(seed)
+    for again in range(turns):
+        for cloth in (cloth_of(mill.program()), mill.cloth(), mill.grid()):
+            if len(plain_order(cloth)) <= most:
+                yield mill, cloth
+                yield mill, mill.with_outs(cloth, 2)
+
+
+def plain_written(cloth, step):
+    """By point 26."""
+    return (cloth.lines[step[0]].name, step[2])
+
+
+def plain_wanted(cloth):
+    """By point 29: from the cells of the outs on, over all steps, until nothing more comes to it."""
+    wanted = {(array, cell) for array in cloth.outs for cell in cells(cloth.arrays[array], cloth.lengths)}
+    steps = plain_order(cloth)
+    reads = [plain_reads(cloth, step) for step in steps]
+    ahead = 0
+    while len(wanted) > ahead:
+        ahead = len(wanted)
+        for step, read in zip(steps, reads):
+            if plain_written(cloth, step) in wanted:
+                wanted.update(read)
+    return {array: [cell for cell in cells(axes, cloth.lengths) if (array, cell) in wanted]
+            for array, axes in cloth.arrays.items()}
+
+
+def plain_lives(cloth, steps):
+    """By point 30, cell by cell over the whole order."""
+    wanted = plain_wanted(cloth)
+    written = [plain_written(cloth, step) for step in steps]
+    reads = [plain_reads(cloth, step) if written[place][1] in wanted[written[place][0]] else []
+             for place, step in enumerate(steps)]
+
+    def life(array, cell):
+        first = 0 if array in cloth.tables else written.index((array, cell)) + 1
+        if array in cloth.outs:
+            return (first, len(steps))
+        return (first, max(place for place, read in enumerate(reads) if (array, cell) in read))
+
+    return {array: {cell: life(array, cell) for cell in told} for array, told in wanted.items()}
+
+
+def plain_crowd(cloth, steps):
+    """By point 31, gap by gap."""
+    lives = plain_lives(cloth, steps)
+    most = (0, [])
+    for gap in range(len(steps) + 1):
+        live = [(array, cell) for array in cloth.arrays for cell in cells(cloth.arrays[array], cloth.lengths)
+                if cell in lives[array] and gap in range(lives[array][cell][0], lives[array][cell][1] + 1)]
+        if len(live) > len(most[1]):
+            most = (gap, live)
+    return most
+
+
+def plain_homes(cloth, steps):
+    """By point 32: at each step all boxes are looked through again."""
+    lives = plain_lives(cloth, steps)
+    homes = {array: {} for array in cloth.arrays}
+    for array in cloth.tables:
+        for cell in lives[array]:
+            homes[array][cell] = sum(len(there) for there in homes.values())
+    for place, step in enumerate(steps):
+        array, cell = plain_written(cloth, step)
+        if lives[array].get(cell, (0, 0))[0] == place + 1:
+            held = [home for other, there in homes.items() for kept, home in there.items()
+                    if lives[other][kept][1] > place]
+            homes[array][cell] = min(box for box in range(len(held) + 1) if box not in held)
+    return (len(plain_crowd(cloth, steps)[1]), homes)
+
+
+def plain_trace(cloth, steps, homes):
+    """By point 35."""
+    trace = []
+    for step in steps:
+        array, cell = plain_written(cloth, step)
+        if cell in homes[array]:
+            trace.extend(("read", homes[other][there]) for other, there in plain_reads(cloth, step))
+            own = homes[array][cell]
+            trace.extend([("read", own), ("write", own)] if step[1] == "add" else [("write", own)])
+    return trace
+
+
+def parts_in(term):
+    """How many parts a term has, each place by itself."""
+    within = [getattr(term, field) for field in ("left", "right", "body", "inner", "outer") if hasattr(term, field)]
+    return 1 + sum(parts_in(inner) for inner in within)

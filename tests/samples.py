@@ -40,11 +40,12 @@ def refusal_once(asked, program):
     return None
 
 
-def cloth_with(*lines, lengths=None, tables=None):
-    """tables are the axes of each table, by their names."""
+def cloth_with(*lines, lengths=None, tables=None, outs=None, wheel=10):
+    """tables are the axes of each table, by their names; outs are all lines where they are not told."""
     lengths, tables = lengths or dict(LENGTHS), tables or {}
     arrays = {**tables, **{line.name: line.axes for line in lines}}
-    return Cloth(10, lengths, arrays, list(tables), list(lines), [line.name for line in lines])
+    outs = [line.name for line in lines] if outs is None else outs
+    return Cloth(wheel, lengths, arrays, list(tables), list(lines), outs)
 
 
 def loop(number, size, *body):

@@ -22,6 +22,7 @@ from arrayloom.terms import Sum
 from tests.mill import Mill
 from tests.mill import plain_needs
 from tests.mill import plain_order
+from tests.mill import sorted_by_needs
 from tests.samples import cloth_with
 
 ONE = Number(1)
@@ -315,19 +316,6 @@ class OrdersOfNests(Judging):
                     self.passes(cloth, sorted_by_needs(cloth, dice))
         # A look at the mill itself: many pass and many do not.
         self.assertGreater(min(passed.count(True), passed.count(False)), 50)
-
-
-def sorted_by_needs(cloth, dice):
-    """An order that is to be let by: each time one of the steps is drawn of which all that they need has come."""
-    order, needs = plain_order(cloth), plain_needs(cloth)
-    steps, come, left = [], set(), set(range(len(order)))
-    while left:
-        waiting = {later for needed, later in needs if needed not in come}
-        drawn = dice.choice(sorted(left - waiting))
-        left.remove(drawn)
-        come.add(drawn)
-        steps.append(order[drawn])
-    return steps
 
 
 if __name__ == "__main__":
