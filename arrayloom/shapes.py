@@ -36,9 +36,12 @@ def look_told_names(names):
 
 
 def is_name(text):
-    if text in WORDS_OF_TERMS or not 1 <= len(text) <= MOST_LETTERS:
-        return False
-    return all(["a" <= sign <= "z" for sign in text])
+    return is_of_letters(text) and len(text) <= MOST_LETTERS and text not in WORDS_OF_TERMS
+
+
+# Python's own questions let letters by that are none of a to z.
+def is_of_letters(text):
+    return text != "" and all(["a" <= sign <= "z" for sign in text])
 
 
 def look_outs(outs, names):

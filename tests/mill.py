@@ -100,6 +100,12 @@ class Mill:
         names = [line.name for line in lines]
         return Cloth(10, self.lengths, {name: ["x", "y"] for name in names}, [], lines, names)
 
+    def slanted(self):
+        """A program whose cloth is such a grid."""
+        cloth = self.grid()
+        lets = [Let(line.name, line.axes, Sum("k", line.term) if line.sums else line.term) for line in cloth.lines]
+        return Program(cloth.wheel, list(cloth.lengths.items()), [], lets, cloth.outs)
+
     def with_outs(self, cloth, most):
         """The same cloth with other outs, few of them, so that not all of its cells are wanted."""
         names = sorted(cloth.arrays)

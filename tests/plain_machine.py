@@ -1,8 +1,12 @@
-"""A plain machine of points 33 and 34, for tapes that are to come to their end without a refusal."""
+"""A plain machine of points 33 and 34."""
 
 
 class Refused(Exception):
-    """What the machine refuses, or what is not promised: no tape of a cloth and a nest may come to it."""
+    """What the machine refuses, by the refusal's name; or "" for what is not promised."""
+
+    def __init__(self, name, words):
+        super().__init__(words)
+        self.name = name
 
 
 def done(tape, wheel, homes, boxes, most):
@@ -11,9 +15,9 @@ def done(tape, wheel, homes, boxes, most):
     place, doings = 0, 0
     while place != len(tape):
         if doings == most:
-            raise Refused("no end")
+            raise Refused("NoEnd", "no end")
         if not 0 <= place < len(tape):
-            raise Refused("a place off the tape")
+            raise Refused("", "a place off the tape")
         word, rest = tape[place][0], tape[place][1:]
         leads = getattr(machine, "do_" + word)(*rest)
         place = place + 1 if leads is None else leads
@@ -30,7 +34,7 @@ class Machine:
 
     def count_of(self, counter):
         if counter not in self.counts:
-            raise Refused(f"the counter {counter} was never set")
+            raise Refused("", f"the counter {counter} was never set")
         return self.counts[counter]
 
     def put(self, number):
@@ -38,7 +42,7 @@ class Machine:
 
     def taken(self):
         if not self.stack:
-            raise Refused("nothing on the stack")
+            raise Refused("", "nothing on the stack")
         return self.stack.pop()
 
     def cell_at(self, indexes):
@@ -47,9 +51,9 @@ class Machine:
     def box_of(self, array, indexes, written):
         box = self.homes[array].get(self.cell_at(indexes))
         if box is None or not 0 <= box < len(self.boxes):
-            raise Refused(f"no box for the cell {self.cell_at(indexes)} of {array}")
+            raise Refused("Outside", f"no box for the cell {self.cell_at(indexes)} of {array}")
         if written and self.boxes[box] is None:
-            raise Refused(f"nothing in the box {box} of the cell {self.cell_at(indexes)} of {array}")
+            raise Refused("Unwritten", f"nothing in the box {box} of the cell {self.cell_at(indexes)} of {array}")
         return box
 
     def do_push(self, number):
@@ -76,14 +80,16 @@ class Machine:
         self.put(self.boxes[box])
 
     def do_store(self, array, indexes):
+        number = self.taken()
         box = self.box_of(array, indexes, False)
         self.trace.append(("write", box))
-        self.boxes[box] = self.taken()
+        self.boxes[box] = number
 
     def do_gather(self, array, indexes):
+        number = self.taken()
         box = self.box_of(array, indexes, True)
         self.trace.extend([("read", box), ("write", box)])
-        self.boxes[box] = (self.boxes[box] + self.taken()) % self.wheel
+        self.boxes[box] = (self.boxes[box] + number) % self.wheel
 
     def do_skip(self, array, indexes, to):
         return to if self.cell_at(indexes) not in self.homes[array] else None

@@ -6,6 +6,7 @@ from arrayloom.judging import judge
 from arrayloom.lifting import cloth_of
 from arrayloom.lines import Cloth
 from arrayloom.lines import Line
+from arrayloom.machine import go
 from arrayloom.meaning import meaning
 from arrayloom.moves import planned
 from arrayloom.nests import first_nest
@@ -79,7 +80,9 @@ class Tape(unittest.TestCase):
         tape = tape_of(cloth, nest)
         self.check_rows(tape, cloth, nest)
         most = 2000 * len(steps) + 2000
-        boxes, trace, doings = done(tape, cloth.wheel, homes, boxes_with(cloth, tables, room, homes), most)
+        first = boxes_with(cloth, tables, room, homes)
+        boxes, trace = go(tape, cloth.wheel, homes, first, most)
+        self.assertEqual(done(tape, cloth.wheel, homes, first, most)[:2], (boxes, trace))
         self.assertEqual(trace, plain_trace(cloth, plain_steps(nest), homes))
         numbers = woven(cloth, tables)
         for array in cloth.outs:
