@@ -5,8 +5,10 @@ Each look tells a list of faults, texts of the form "file:row rule what".
 
 import ast
 import builtins
+import io
 import os
 import re
+import tokenize
 
 PACKAGE = "arrayloom"
 FOLDER = os.path.join(os.path.dirname(os.path.dirname(os.path.abspath(__file__))), PACKAGE)
@@ -43,6 +45,14 @@ WALKED = ("zip", "enumerate", "reversed", "range")
 WALKED_METHODS = ("items", "keys", "values")
 WALKERS = ("list", "tuple", "dict", "sorted", "sum", "any", "all", "enumerate", "zip", "min", "max")
 BUILTIN_VALUES = (str, int, list, dict, set, bytes)
+KEYWORDS = {"sorted": ("key", "reverse"), "min": ("key", "default"), "max": ("key", "default"), "sum": ("start",),
+            "enumerate": ("start",), "zip": ("strict",)}
+ASKED_FOR = ("int", "str", "bool", "list", "tuple", "dict")
+CHANGING = ("append", "clear", "extend", "insert", "pop", "remove", "reverse", "setdefault", "update")
+READING = ("get", "items", "keys", "values", "index", "count", "copy")
+READERS = ("len", "list", "dict", "tuple", "sorted", "min", "max", "sum", "any", "all", "enumerate", "zip", "reversed")
+NARROW_ERRORS = ("ValueError", "LookupError", "IndexError")
+ESCAPE = re.compile(r"(?<!\\)(\\\\)*\\[^nt\\'\"]")
 
 
 class File:
@@ -86,7 +96,8 @@ def faults_of(files):
     faults = []
     for file in files:
         for look in (look_file_name, look_text, look_top, look_nodes, look_imports, look_names, look_calls,
-                     look_walks, look_sets, look_errors):
+                     look_keywords, look_walks, look_changes, look_sets, look_two_forms, look_kept_at_top, look_escapes,
+                     look_errors, look_dunders):
             faults.extend(look(file))
     return faults + look_circles(files) + look_import_names(files) + look_methods_and_values(files)
 
@@ -289,6 +300,114 @@ def may_stand_uncalled(node, file):
     return isinstance(parent, (ast.ClassDef, ast.ExceptHandler, ast.keyword)) or is_call_of(parent, ("isinstance",))
 
 
+def look_keywords(file):
+    faults = []
+    for node in ast.walk(file.tree):
+        if isinstance(node, ast.Call):
+            name = node.func.id if isinstance(node.func, ast.Name) else getattr(node.func, "attr", "")
+            of_python = name in OWN_NAMES or isinstance(node.func, ast.Attribute) and name in METHODS
+            if of_python and any(keyword.arg not in KEYWORDS.get(name, ()) for keyword in node.keywords):
+                faults.append(file.fault(node, "L22", "keyword"))
+            if name == "isinstance" and not is_class_to_ask_for(node.args[1]):
+                faults.append(file.fault(node, "L22", "isinstance"))
+    return faults
+
+
+def is_class_to_ask_for(node):
+    if isinstance(node, ast.Tuple):
+        return all(is_class_to_ask_for(member) for member in node.elts)
+    return isinstance(node, ast.Name) and (node.id in ASKED_FOR or node.id not in OWN_NAMES)
+
+
+def look_changes(file):
+    """What a loop walks is not changed in it."""
+    faults = []
+    for node in ast.walk(file.tree):
+        if isinstance(node, ast.For):
+            walked = [ast.dump(part) for part in walked_by(node.iter)]
+            for inner in [found for row in node.body for found in ast.walk(row)]:
+                if changed_by(inner) is not None and without_context(changed_by(inner)) in walked:
+                    faults.append(file.fault(inner, "L23", "changed where it is walked"))
+    return faults
+
+
+def walked_by(node):
+    """The thing itself, or those that it is walked through."""
+    if is_call_of(node, WALKED):
+        return [part for argument in node.args for part in walked_by(argument)]
+    if isinstance(node, ast.Call) and isinstance(node.func, ast.Attribute) and node.func.attr in WALKED_METHODS:
+        return [node.func.value]
+    return [node]
+
+
+def changed_by(node):
+    if isinstance(node, ast.Call) and isinstance(node.func, ast.Attribute) and node.func.attr in CHANGING:
+        return node.func.value
+    if isinstance(node, ast.Subscript) and isinstance(node.ctx, ast.Store):
+        return node.value
+    if isinstance(node, ast.AugAssign):
+        return node.target
+    return None
+
+
+def without_context(node):
+    return ast.dump(node).replace("Store()", "Load()")
+
+
+def look_two_forms(file):
+    faults, lambdas = [], []
+    for node in ast.walk(file.tree):
+        if isinstance(node, ast.Set) and not isinstance(file.parents[node], ast.Compare):
+            numbers = [member for member in node.elts if isinstance(getattr(member, "value", None), int)]
+            if len(numbers) >= 3:
+                faults.append(file.fault(node, "L13", "a set of numbers"))
+        if isinstance(node, ast.Lambda):
+            form = (node.lineno, [argument.arg for argument in node.args.args])
+            if form in lambdas:
+                faults.append(file.fault(node, "L13", "two lambdas on one line"))
+            lambdas.append(form)
+    return faults
+
+
+def look_kept_at_top(file):
+    """A list or dict of a file's top is only read."""
+    faults = []
+    kept = [node.targets[0].id for node in file.tree.body
+            if isinstance(node, ast.Assign) and isinstance(node.value, (ast.List, ast.Dict))]
+    for node in ast.walk(file.tree):
+        if isinstance(node, ast.Name) and node.id in kept and isinstance(node.ctx, ast.Load):
+            parent = file.parents[node]
+            indexed = isinstance(parent, ast.Subscript) and parent.value is node and isinstance(parent.ctx, ast.Load)
+            walked = isinstance(parent, (ast.For, ast.comprehension)) and parent.iter is node
+            asked = isinstance(parent, ast.Attribute) and parent.attr in READING
+            called = is_call_of(parent, READERS)
+            if not (indexed or walked or asked or called or isinstance(parent, ast.Compare)):
+                faults.append(file.fault(node, "L15", node.id + " is not only read"))
+    return faults
+
+
+def look_escapes(file):
+    faults = []
+    for token in tokenize.generate_tokens(io.StringIO(file.text).readline):
+        if token.type == tokenize.STRING and ESCAPE.search(token.string):
+            faults.append(file.fault(token.start[0], "L27", "escape"))
+        if token.type == tokenize.STRING and token.string[:1] in "rbRBuU":
+            faults.append(file.fault(token.start[0], "L27", "a text of another sort"))
+    return faults
+
+
+def look_dunders(file):
+    faults = []
+    for node in ast.walk(file.tree):
+        if isinstance(node, ast.FunctionDef) and node.name in OWN_DUNDERS:
+            returns = [found for found in ast.walk(node) if isinstance(found, ast.Return)]
+            stores = [found for found in ast.walk(node) if isinstance(found, (ast.Attribute, ast.Subscript))
+                      and isinstance(found.ctx, ast.Store)]
+            if node.name == "__init__" and returns or node.name != "__init__" and stores:
+                faults.append(file.fault(node, "L28", node.name))
+    return faults
+
+
 def look_walks(file):
     faults = []
     for node in ast.walk(file.tree):
@@ -323,9 +442,18 @@ def look_errors(file):
             taken = [name.id for name in ast.walk(node.type or ast.Tuple([])) if isinstance(name, ast.Name)]
             if not taken or "Exception" in taken or "TypeError" in taken:
                 faults.append(file.fault(node, "L19", "except"))
+            if set(taken) & set(NARROW_ERRORS) and not is_narrow(file.parents[node]):
+                faults.append(file.fault(node, "L19", "more than one thing within the try"))
         if isinstance(node, ast.Raise) and not isinstance(node.exc, ast.Call):
             faults.append(file.fault(node, "L19", "raise"))
     return faults
+
+
+def is_narrow(node):
+    """One row, in which nothing is called but what may be refused there."""
+    calls = [found for row in node.body for found in ast.walk(row) if isinstance(found, (ast.Call, ast.JoinedStr))]
+    names = [getattr(call.func, "id", getattr(call.func, "attr", "")) for call in calls if isinstance(call, ast.Call)]
+    return len(node.body) == 1 and len(names) == len(calls) and set(names) <= {"int", "str", "index", "remove"}
 
 
 def module_name(file):

@@ -49,6 +49,22 @@ FAULTY = [
     ("L25", "def f(x):\n    x.sort()\n"),
     ("L27", "def f(n):\n    return 2 ** n\n"),
     ("L7", "def f():\n    return '5 %'\n"),
+    ("L13", "def f(x):\n    return len({1, 2, 3})\n"),
+    ("L13", "def f(x):\n    return [lambda a: a, lambda a: 1]\n"),
+    ("L15", "XS = [1]\n\n\ndef f(x):\n    XS.append(x)\n"),
+    ("L15", "XS = [1]\n\n\ndef f(x):\n    XS[0] = x\n"),
+    ("L15", "XS = {1: 2}\n\n\ndef f():\n    return XS\n"),
+    ("L19", "def f(x):\n    try:\n        return f(x[0])\n    except IndexError:\n        return 1\n"),
+    ("L19", "def f(x):\n    try:\n        y = int(x)\n        return y\n    except ValueError:\n        return 1\n"),
+    ("L22", "def f(x):\n    return x.split(sep=' ')\n"),
+    ("L22", "def f(x):\n    return isinstance(x, set)\n"),
+    ("L23", "def f(xs):\n    for x in xs:\n        xs.append(x)\n"),
+    ("L23", "def f(d):\n    for k, v in d.items():\n        d[k] = 1\n"),
+    ("L23", "def f(xs):\n    for k, x in enumerate(xs):\n        xs[k] = 1\n"),
+    ("L27", "def f():\n    return '\\x41'\n"),
+    ("L27", "def f():\n    return r'a'\n"),
+    ("L28", "class A:\n    def __init__(self):\n        return None\n"),
+    ("L28", "class A:\n    def __len__(self):\n        self.x = 1\n        return 1\n"),
 ]
 
 
